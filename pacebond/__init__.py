@@ -1,0 +1,1 @@
+"""Pacebond: how long rows take, and what shows it."""

@@ -1,0 +1,1 @@
+"""Codes: rows that are run one behind another."""

@@ -1,0 +1,1 @@
+"""Programs, and what they tell by their own plain steps."""
