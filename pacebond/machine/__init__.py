@@ -1,0 +1,1 @@
+"""The machine: near stores, what is coming, steps and walks."""
