@@ -16,6 +16,11 @@ def is_row(thing, least, most):
     return type(thing) is tuple and least <= len(thing) <= most
 
 
+def are_rising(things):
+    """Whether each of these numbers, or rows of such, is greater than the one ahead of it."""
+    return all([one < other for one, other in zip(things, things[1:])])
+
+
 def are_unlike(things):
     """Whether none of these numbers or texts stands there twice."""
     return len(set(things)) == len(things)

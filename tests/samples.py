@@ -3,6 +3,8 @@
 import unittest
 
 from pacebond.errors import PaceError, WalkError
+from pacebond.machine.moods import BEGIN
+from pacebond.machine.steps import choices_at, step
 
 
 def within(thing, deep):
@@ -151,3 +153,17 @@ def all_inputs(code):
     for low, high in code[0]:
         found = [worths + (worth,) for worths in found for worth in range(low, high + 1)]
     return found
+
+
+def all_walks(code, machine):
+    """All walks of a small code, by single steps."""
+    found = []
+    open_ones = [((), BEGIN)]
+    while open_ones:
+        choices, spot = open_ones.pop()
+        if spot is None:
+            found.append(choices)
+            continue
+        for choice in range(choices_at(code, machine, spot)):
+            open_ones.append((choices + (choice,), step(code, machine, spot, choice)[4]))
+    return sorted(found)

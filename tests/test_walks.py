@@ -3,10 +3,10 @@ import unittest
 from pacebond.codes.runs import trace
 from pacebond.errors import NoCode, NoInput, NoMachine, NoMost, NoWalk, TooWide
 from pacebond.machine.moods import BEGIN, is_spot
-from pacebond.machine.steps import choices_at, step, steps_from
+from pacebond.machine.steps import steps_from
 from pacebond.machine.walks import MOST, is_walk, misses_of, spot_at, spots_of, ticks_of, walk_of, walked
 from pacebond.text.terms import OPS
-from tests.samples import ANYTHING, FORTY, Case, Picks, all_inputs, picked_code
+from tests.samples import ANYTHING, FORTY, Case, Picks, all_inputs, all_walks, picked_code
 
 END = ("end",)
 REST = ("rest",)
@@ -32,20 +32,6 @@ SPOTS = (
 
 def of(*rows, asks=(), many=3, arrays=()):
     return (asks, many, 0, arrays, rows + (END,))
-
-
-def all_walks(code, machine):
-    """All walks of a small code, by single steps."""
-    found = []
-    open_ones = [((), BEGIN)]
-    while open_ones:
-        choices, spot = open_ones.pop()
-        if spot is None:
-            found.append(choices)
-            continue
-        for choice in range(choices_at(code, machine, spot)):
-            open_ones.append((choices + (choice,), step(code, machine, spot, choice)[4]))
-    return sorted(found)
 
 
 class Clock:

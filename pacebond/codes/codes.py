@@ -1,8 +1,10 @@
 """Codes: their form, their loops, and the ways from row to row."""
 
-from pacebond.errors import NoCode, NoRow
+from pacebond.errors import NoCode, NoRow, TooLong
 from pacebond.kinds import fits, is_row, is_whole
 from pacebond.text.terms import WORTHS, is_op, is_worth
+
+JUMPS = ("test", "go")
 
 _ASKS = 3
 _REGISTERS = 16
@@ -63,6 +65,12 @@ def need_row(code, row):
         raise NoRow(row)
 
 
+def need_short(rows):
+    """Refuses more rows than a code may have."""
+    if len(rows) > _ROWS:
+        raise TooLong("there would be too many rows")
+
+
 def loops_of(code):
     """The loops as (count's row, again's row), rising."""
     need_code(code)
@@ -86,16 +94,7 @@ def ways_from(code, row):
 def come_to(code):
     """The rows that are come to, rising."""
     need_code(code)
-    rows = code[4]
-    found = {0: True}
-    left = [0]
-    while left:
-        here = left.pop()
-        for to in ways_in(rows, here):
-            if to not in found:
-                found[to] = True
-                left.append(to)
-    return tuple(sorted(found))
+    return tuple(rows_come_to(code[4]))
 
 
 def reads(code, row):
@@ -110,6 +109,19 @@ def gives(code, row):
     need_code(code)
     need_row(code, row)
     return given_by(code[4][row])
+
+
+def rows_come_to(rows):
+    """The numbers of those rows that are come to, rising."""
+    found = {0: True}
+    left = [0]
+    while left:
+        here = left.pop()
+        for to in ways_in(rows, here):
+            if to not in found:
+                found[to] = True
+                left.append(to)
+    return sorted(found)
 
 
 def is_span(thing):
@@ -165,7 +177,7 @@ def jumps_well(rows):
     """Whether each jump leads on, and into a loop's rows only from the same loop's."""
     loops = loops_in(rows)
     for at, row in enumerate(rows):
-        if row[0] in ("test", "go"):
+        if row[0] in JUMPS:
             to = row[-1]
             entered = [count for count in counts_around(loops, to) if count not in counts_around(loops, at)]
             if to <= at or entered:

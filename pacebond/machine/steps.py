@@ -47,6 +47,8 @@ class Ground:
     def __init__(self, code, machine):
         sizes, rows = code[3], code[4]
         loops = loops_in(rows)
+        self.its_code = code
+        self.its_machine = machine
         self.rows = rows
         self.far, self.most_rows, self.most_cells = machine
         self.depths = [len(counts_around(loops, at)) for at in range(len(rows))]

@@ -15,19 +15,12 @@ _GREATEST_MOST = 5000
 
 def spots_of(code, machine, *, most=MOST):
     """All spots that walks come to, rising."""
-    ground = ground_of(code, machine)
-    need_most(most)
-    return tuple(spots_on(ground, most))
+    return tuple(sorted(steps_of(code, machine, most)))
 
 
 def is_walk(code, machine, thing):
     """Whether it is a walk."""
-    ground = ground_of(code, machine)
-    try:
-        whole_walk(ground, thing)
-    except NoWalk:
-        return False
-    return True
+    return ticks_on(ground_of(code, machine), thing) is not None
 
 
 def walked(code, machine, walk):
@@ -79,20 +72,26 @@ def need_most(most):
         raise NoMost("this is no number of spots to stop at")
 
 
-def spots_on(ground, most):
-    """All spots that walks come to, rising; refused as too wide where there are more than most."""
-    found = {BEGIN: True}
+def steps_of(code, machine, most):
+    """As steps_on, of anything; what is wrong is refused in its order."""
+    ground = ground_of(code, machine)
+    need_most(most)
+    return steps_on(ground, most)
+
+
+def steps_on(ground, most):
+    """For each spot that walks come to the steps of its choices; refused as too wide where there are more than most."""
+    found = {}
     left = [BEGIN]
     while left:
         here = left.pop()
-        for one in ground.steps_at(here):
-            spot = one[4]
-            if spot is not None and spot not in found:
-                found[spot] = True
-                left.append(spot)
-        if len(found) > most:
+        if here in found:
+            continue
+        if len(found) == most:
             raise TooWide("walks come to too many spots")
-    return sorted(found)
+        found[here] = ground.steps_at(here)
+        left.extend([one[4] for one in found[here] if one[4] is not None])
+    return found
 
 
 def part_walked(ground, choices):
@@ -116,6 +115,28 @@ def whole_walk(ground, walk):
     if spot is not None:
         raise NoWalk(len(walk))
     return told
+
+
+def ticks_on(ground, thing):
+    """How many ticks it takes where it is a walk, else None."""
+    try:
+        told = whole_walk(ground, thing)
+    except NoWalk:
+        return None
+    return sum([ticks_in(one) for _, one in told])
+
+
+def run_ticks(ground, worths):
+    """How many ticks the run of an input takes."""
+    going = Run(ground.its_code, worths)
+    spot = BEGIN
+    ticks = 0
+    while spot is not None:
+        one = ground.step_by(spot, choice_of(going))
+        going.do_row()
+        ticks += ticks_in(one)
+        spot = one[4]
+    return ticks
 
 
 def choice_of(going):

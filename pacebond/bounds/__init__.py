@@ -1,0 +1,1 @@
+"""Bounds: how many ticks walks and runs take, and what shows it."""

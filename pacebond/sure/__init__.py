@@ -1,0 +1,1 @@
+"""What hits surely, whatever walk comes to it."""

@@ -1,0 +1,43 @@
+"""Each name of the interface stands where it is listed, is defined there, and takes what it is listed with."""
+
+import importlib
+import inspect
+import unittest
+
+LISTED = {
+    "codes.made": ["made(program)"],
+    "bounds.heights": [
+        "heights_of(code, machine, *, most=1000)", "depths_of(code, machine, *, most=1000)",
+        "shows_heights(code, machine, thing)", "shows_depths(code, machine, thing)",
+    ],
+    "bounds.longest": [
+        "bound_of(code, machine, *, most=1000)", "swiftest_of(code, machine, *, most=1000)",
+        "longest(code, machine, *, most=1000)", "shortest(code, machine, *, most=1000)",
+        "shows_longest(code, machine, thing)", "shows_shortest(code, machine, thing)",
+    ],
+    "bounds.worst": [
+        "worst_of(code, machine)", "spread_of(code, machine)", "slower(code, other, machine)",
+        "slack_of(code, machine, *, most=1000)", "sharp(code, machine, *, most=1000)",
+        "shows_sharp(code, machine, thing, *, most=1000)",
+    ],
+    "sure.hits": [
+        "sure_row(code, machine, row, *, most=1000)", "shows_sure_row(code, machine, row, thing)",
+        "sure_cells(code, machine, row, *, most=1000)", "shows_sure_cells(code, machine, row, thing)",
+        "sure_rows(code, machine, *, most=1000)",
+    ],
+}
+
+
+class Interface(unittest.TestCase):
+    def test_each_name(self):
+        for module, listed in LISTED.items():
+            there = importlib.import_module("pacebond." + module)
+            for wanted in listed:
+                name = wanted[:wanted.index("(")]
+                found = getattr(there, name)
+                self.assertEqual(name + str(inspect.signature(found)), wanted)
+                self.assertEqual(found.__module__, "pacebond." + module)
+
+
+if __name__ == "__main__":
+    unittest.main()
