@@ -25,6 +25,14 @@ LISTED = {
         "sure_cells(code, machine, row, *, most=1000)", "shows_sure_cells(code, machine, row, thing)",
         "sure_rows(code, machine, *, most=1000)",
     ],
+    "sure.sheets": [
+        "behind_row(code, machine, row, lines)", "sheet_of(code, machine)", "is_sheet(code, machine, thing)",
+        "hits_by(code, machine, sheet)",
+    ],
+    "passes.threaded": ["threaded(code)"],
+    "passes.dropped": ["dropped(code)", "dead_rows(code)"],
+    "passes.exchanged": ["exchanged(code, row)"],
+    "passes.laid": ["laid(code, row)"],
 }
 
 

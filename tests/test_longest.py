@@ -139,6 +139,9 @@ class Shown(Case):
         for part in ANYTHING:
             self.assertIs(shows_longest(TEST, MACHINE, put_at(paper, (0,), part)), False)
             self.assertIs(shows_shortest(TEST, MACHINE, put_at(shortest(TEST, MACHINE), (0,), part)), repr(part) == "7")
+        for none in (None, (), (0,)):
+            self.assertIs(shows_longest(TEST, MACHINE, (None, none, paper[2])), False)
+            self.assertIs(shows_shortest(TEST, MACHINE, (None, none, depths_of(TEST, MACHINE))), False)
         self.assertIs(shows_longest(TEST, MACHINE, (FORTY, paper[1], moved(paper[2], FORTY))), False)
         self.assertIs(shows_shortest(of(), MACHINE, (0, (0,), ((BEGIN, 0),))), False)
 

@@ -250,6 +250,7 @@ class Slower(Case):
     def test_refused_in_order(self):
         for thing in ANYTHING:
             self.refuses(NoCode, slower, thing, None, None)
+            self.refuses(NoCode, slower, thing, SHARP, MACHINE)
             self.refuses(NoCode, slower, SHARP, thing, None)
             if thing != (1, 2, 3):
                 self.refuses(NoMachine, slower, SHARP, SLACK, thing)

@@ -19,11 +19,11 @@ def closed_steps(ground, things):
     return steps if all([spot in steps for spot in led]) else None
 
 
-def choices_to(steps, spot):
+def choices_to(steps, goal):
     """Choices that lead from the first spot to this one, steps being those of all spots that walks come to."""
-    came = {one[4]: (here, at) for here in steps for at, one in enumerate(steps[here])}
+    came = {one[4]: (spot, at) for spot in steps for at, one in enumerate(steps[spot])}
     choices = []
-    here = spot
+    here = goal
     # No steps lead back to a spot, so going back from it ends, at the one spot to which none leads.
     while here != BEGIN:
         here, choice = came[here]

@@ -1,0 +1,1 @@
+"""Passes: codes made of codes, which tell what these told."""
