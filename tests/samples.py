@@ -3,7 +3,7 @@
 import unittest
 
 from pacebond.errors import PaceError, WalkError
-from pacebond.machine.moods import BEGIN
+from pacebond.machine.moods import BEGIN, EMPTY
 from pacebond.machine.steps import choices_at, step
 
 
@@ -166,4 +166,19 @@ def all_walks(code, machine):
             continue
         for choice in range(choices_at(code, machine, spot)):
             open_ones.append((choices + (choice,), step(code, machine, spot, choice)[4]))
+    return sorted(found)
+
+
+def piece_walks(code, machine, seam, other):
+    """(choices, ((spot, ticks) of each step)) of all walks of a piece of a small code, by single steps."""
+    found = []
+    open_ones = [((), (), (seam, (), EMPTY))]
+    while open_ones:
+        choices, told, spot = open_ones.pop()
+        if spot is None or spot[0] == other:
+            found.append((choices, told))
+            continue
+        for choice in range(choices_at(code, machine, spot)):
+            one = step(code, machine, spot, choice)
+            open_ones.append((choices + (choice,), told + ((spot, sum(one[:4])),), one[4]))
     return sorted(found)

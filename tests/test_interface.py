@@ -33,6 +33,21 @@ LISTED = {
     "passes.dropped": ["dropped(code)", "dead_rows(code)"],
     "passes.exchanged": ["exchanged(code, row)"],
     "passes.laid": ["laid(code, row)"],
+    "passes.folded": ["known_of(code)", "folded(code)"],
+    "passes.turned": ["turned(code, row)"],
+    "passes.tuned": [
+        "is_passes(thing)", "passed(code, one)", "tuned(code, machine, passes, *, most=1000)",
+        "tuned_paper(code, machine, passes, *, most=1000)", "shows_tuned(code, machine, passes, thing, *, most=1000)",
+    ],
+    "cuts.seams": [
+        "seams_of(code)", "piece_bound(code, machine, seam, other, *, most=1000)",
+        "piece_heights(code, machine, seam, other, *, most=1000)", "shows_piece(code, machine, seam, other, thing)",
+        "piece_ticks(code, machine, seam, other, thing)",
+    ],
+    "cuts.cuts": [
+        "cut_of(code, machine, share, *, most=1000)", "cut_paper(code, machine, share, *, most=1000)",
+        "shows_cut(code, machine, share, thing, *, most=1000)",
+    ],
 }
 
 

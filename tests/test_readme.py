@@ -14,7 +14,7 @@ class Readme(unittest.TestCase):
         names = {}
         exec(example, names)
         told = re.findall(r"^([a-z_]+\(.*\)\S*) +# (.*)$", example, re.MULTILINE)
-        self.assertEqual(len(told), 14)
+        self.assertEqual(len(told), 17)
         for call, wanted in told:
             self.assertEqual(repr(eval(call, names)), wanted, call)
 

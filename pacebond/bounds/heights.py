@@ -2,7 +2,6 @@
 
 from pacebond.kinds import is_count, is_row
 from pacebond.machine.closed import closed_steps
-from pacebond.machine.moods import BEGIN
 from pacebond.machine.steps import ticks_in
 from pacebond.machine.walks import MOST, ground_of, steps_of
 
@@ -40,18 +39,26 @@ def least(numbers):
 def ticks_ahead(steps, pick):
     """For each spot that walks come to the most or the fewest ticks that go on from it; pick is greatest or least.
 
-    Steps are those of all these spots. None is behind end, where nothing goes on.
+    Steps are those of all these spots. None is behind end, where nothing goes on. In what is told a spot stands behind
+    those to which its steps lead.
     """
-    ticks = {None: 0}
-    left = [BEGIN]
+    return ticks_beside({None: 0}, steps, pick)
+
+
+def ticks_beside(known, steps, pick):
+    """As ticks_ahead, with what is known already of None and of some of these spots."""
+    ticks = {spot: known[spot] for spot in known}
+    left = list(steps)
     while left:
         here = left[-1]
+        if here in ticks:
+            left.pop()
+            continue
         ahead = [one[4] for one in steps[here] if one[4] not in ticks]
         if ahead:
             left.extend(ahead)
         else:
             ticks[here] = pick([ticks_in(one) + ticks[one[4]] for one in steps[here]])
-            left.pop()
     return ticks
 
 
@@ -74,4 +81,4 @@ def begin_number(ground, thing, pick):
         behind = [ticks_in(one) + numbers[one[4]] for one in steps[spot]]
         if pick([number] + behind) != number:
             return None
-    return numbers[BEGIN]
+    return numbers[ground.begin]

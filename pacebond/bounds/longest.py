@@ -48,12 +48,12 @@ def is_paper(ground, thing, pick):
 def paper_of(steps, pick):
     """(ticks, walk, numbers at spots) of the steps of all spots that walks come to; pick is greatest or least."""
     ticks = ticks_ahead(steps, pick)
-    return (ticks[BEGIN], walk_by(steps, ticks), numbered_spots(ticks))
+    return (ticks[BEGIN], walk_by(BEGIN, steps, ticks), numbered_spots(ticks))
 
 
-def walk_by(steps, ticks):
-    """A walk that takes the ticks that are told to go on from the first spot."""
-    spot = BEGIN
+def walk_by(begin, steps, ticks):
+    """A walk that takes the ticks that are told to go on from the spot where it begins."""
+    spot = begin
     walk = []
     while spot is not None:
         found = steps[spot]

@@ -50,7 +50,7 @@ def sharp(code, machine, *, most=MOST):
     ticks = ticks_ahead(steps, greatest)
     if ticks[BEGIN] == most_ticks:
         return ("sharp", worths, numbered_spots(ticks))
-    return ("slack", worths, walk_by(steps, ticks))
+    return ("slack", worths, walk_by(BEGIN, steps, ticks))
 
 
 def shows_sharp(code, machine, thing, *, most=MOST):

@@ -11,7 +11,7 @@ def closed_steps(ground, things):
     """
     if not all([is_spot_form(ground.its_code, ground.its_machine, one) for one in things]):
         return None
-    if not are_rising(things) or BEGIN not in things:
+    if not are_rising(things) or ground.begin not in things:
         return None
     steps = {spot: ground.steps_at(spot) for spot in things}
     # Behind end there is nothing more to be held to.

@@ -3,7 +3,7 @@
 from pacebond.codes.codes import counts_around, given_by, loops_in, need_code, read_by
 from pacebond.errors import NoChoice
 from pacebond.kinds import is_whole
-from pacebond.machine.moods import need_spot
+from pacebond.machine.moods import BEGIN, need_spot
 from pacebond.machine.near import ask, first_line, lines_for, need_machine, row_line_brought
 
 _TIMES_TICKS = 2
@@ -42,13 +42,14 @@ def ticks_in(one):
 
 
 class Ground:
-    """A code on a machine, with what its steps hang on worked out once for all of them."""
+    """A code on a machine, with what its steps hang on worked out once for all of them; begin is where walks begin."""
 
     def __init__(self, code, machine):
         sizes, rows = code[3], code[4]
         loops = loops_in(rows)
         self.its_code = code
         self.its_machine = machine
+        self.begin = BEGIN
         self.rows = rows
         self.far, self.most_rows, self.most_cells = machine
         self.depths = [len(counts_around(loops, at)) for at in range(len(rows))]

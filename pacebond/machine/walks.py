@@ -1,7 +1,7 @@
 """Walks: choices from the first spot to behind end, and the spots that they come to."""
 
 from pacebond.codes.codes import need_code
-from pacebond.codes.runs import Run, need_input
+from pacebond.codes.runs import Run, need_input, run
 from pacebond.errors import NoMost, NoWalk, TooWide
 from pacebond.kinds import is_whole
 from pacebond.machine.moods import BEGIN
@@ -82,7 +82,7 @@ def steps_of(code, machine, most):
 def steps_on(ground, most):
     """For each spot that walks come to the steps of its choices; refused as too wide where there are more than most."""
     found = {}
-    left = [BEGIN]
+    left = [ground.begin]
     while left:
         here = left.pop()
         if here in found:
@@ -98,7 +98,7 @@ def part_walked(ground, choices):
     """((spot, step) for each choice from the first spot, the spot behind them)."""
     if type(choices) is not tuple:
         raise NoWalk(0)
-    spot = BEGIN
+    spot = ground.begin
     told = []
     for at, choice in enumerate(choices):
         if spot is None or not ground.has_choice(spot, choice):
@@ -126,17 +126,28 @@ def ticks_on(ground, thing):
     return sum([ticks_in(one) for _, one in told])
 
 
-def run_ticks(ground, worths):
-    """How many ticks the run of an input takes."""
+def run_steps(ground, worths):
+    """The steps of the run of an input."""
     going = Run(ground.its_code, worths)
     spot = BEGIN
-    ticks = 0
+    told = []
     while spot is not None:
         one = ground.step_by(spot, choice_of(going))
         going.do_row()
-        ticks += ticks_in(one)
+        told.append(one)
         spot = one[4]
-    return ticks
+    return told
+
+
+def run_ticks(ground, worths):
+    """How many ticks the run of an input takes."""
+    return sum([ticks_in(one) for one in run_steps(ground, worths)])
+
+
+def timed_run(code, machine, worths):
+    """(what the run of an input tells, how many ticks it takes)."""
+    ground = ground_of(code, machine)
+    return (run(code, worths), run_ticks(ground, worths))
 
 
 def choice_of(going):

@@ -1,0 +1,1 @@
+"""Seams, the pieces between them, and codes cut into such pieces."""
