@@ -48,6 +48,31 @@ LISTED = {
         "cut_of(code, machine, share, *, most=1000)", "cut_paper(code, machine, share, *, most=1000)",
         "shows_cut(code, machine, share, thing, *, most=1000)",
     ],
+    "wire.gaps": ["gaps_of(code, machine, worths)"],
+    "wire.together": [
+        "is_works(thing)", "played(machine, works)", "joined_of(code, machine, others, *, most=1000)",
+        "joined_heights(code, machine, others, *, most=1000)", "shows_joined(code, machine, others, thing)",
+    ],
+    "words.texts": [
+        "program_text(program)", "code_text(code)", "row_text(row)", "passes_text(passes)", "numbers_text(numbers)",
+        "read_program(text)", "read_code(text)", "read_row(text)", "read_passes(text)",
+    ],
+}
+
+# Each method has to stand in the class itself.
+CLASSES = {
+    "bench.bench.Bench": [
+        "__init__(self, code, machine, *, most=1000)", "change(self, row, new)", "back(self)", "code(self)", "machine(self)",
+        "bound(self)", "heights(self)", "judged(self)", "__eq__(self, other)", "__len__(self)", "__str__(self)", "__repr__(self)",
+    ],
+    "bench.yard.Yard": [
+        "__init__(self, machine, *, most=1000)", "write(self, name, program)", "tune(self, name, passes)",
+        "change(self, name, row, new)", "drop(self, name)", "back(self)", "run(self, deeds)", "runs(self)", "log(self)",
+        "names(self)", "program(self, name)", "code(self, name)", "bound(self, name)", "worst(self, name)", "slack(self, name)",
+        "cut(self, name, share)", "joined(self, name)", "sure(self, name)", "told(self, name, worths)", "__eq__(self, other)",
+        "__len__(self)", "__repr__(self)",
+    ],
+    "words.desk.Desk": ["__init__(self)", "say(self, row)", "many(self, rows)", "log(self)", "yard(self)", "__len__(self)"],
 }
 
 
@@ -60,6 +85,16 @@ class Interface(unittest.TestCase):
                 found = getattr(there, name)
                 self.assertEqual(name + str(inspect.signature(found)), wanted)
                 self.assertEqual(found.__module__, "pacebond." + module)
+
+    def test_each_method(self):
+        for path, listed in CLASSES.items():
+            module, _, word = path.rpartition(".")
+            found = getattr(importlib.import_module("pacebond." + module), word)
+            self.assertEqual(found.__module__, "pacebond." + module)
+            for wanted in listed:
+                name = wanted[:wanted.index("(")]
+                self.assertIn(name, vars(found))
+                self.assertEqual(name + str(inspect.signature(vars(found)[name])), wanted)
 
 
 if __name__ == "__main__":

@@ -114,7 +114,7 @@ class Language(unittest.TestCase):
         self.assertEqual([(path, node.lineno) for path, node in self.nodes(*barred)], [])
         for path, node in self.nodes(ast.FunctionDef, ast.ClassDef):
             self.assertEqual(node.decorator_list, [], path)
-        # Bench and Yard will have an __eq__, and beside one no generator goes into any, all, sum and their kind.
+        # Bench and Yard have an __eq__, and beside one no generator goes into any, all, sum and their kind.
         self.assertEqual([(path, node.lineno) for path, node in self.nodes(ast.GeneratorExp)], [])
         for path, node in self.nodes(ast.Compare):
             for sign, other in zip(node.ops, node.comparators):

@@ -13,8 +13,8 @@ class Readme(unittest.TestCase):
             example = re.search("```python\n(.*?)```", file.read(), re.DOTALL).group(1)
         names = {}
         exec(example, names)
-        told = re.findall(r"^([a-z_]+\(.*\)\S*) +# (.*)$", example, re.MULTILINE)
-        self.assertEqual(len(told), 17)
+        told = re.findall(r"^([a-z_.]+\(.*\)\S*) +# (.*)$", example, re.MULTILINE)
+        self.assertEqual(len(told), 24)
         for call, wanted in told:
             self.assertEqual(repr(eval(call, names)), wanted, call)
 

@@ -146,6 +146,16 @@ def is_row_form(thing, many, arrays, rows):
     return fits(thing[1:], [spans[sign] for sign in form])
 
 
+def is_some_row(thing):
+    """Whether it is a row that some code may have."""
+    if not is_row_form(thing, _REGISTERS, _ARRAYS, _ROWS):
+        return False
+    if thing[0] in JUMPS:
+        return thing[-1] > 0
+    # A count stands ahead of where an again leads, and an end behind the again.
+    return thing[0] != "again" or 0 < thing[1] < _ROWS - 1
+
+
 def ends_well(rows):
     """Whether the last row, and only that, is end."""
     return [at for at, row in enumerate(rows) if row[0] == "end"] == [len(rows) - 1]

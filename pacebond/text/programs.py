@@ -4,12 +4,13 @@ from pacebond.errors import NoProgram
 from pacebond.kinds import are_unlike, is_row, is_whole
 from pacebond.text.terms import is_name, is_term, is_worth
 
+BODIES_WITHIN = 3
+
 _ASKS = 3
 _ARRAYS = 2
 _CELLS = 6
 _BESIDE = 8
 _ROUNDS = 6
-_WITHIN = 3
 _LOOPS_WITHIN = 2
 _STATEMENTS = 24
 _VARIABLES = 6
@@ -20,7 +21,7 @@ def is_program(thing):
     if not is_row(thing, 3, 3):
         return False
     asks, arrays, body = thing
-    if not (are_asks(asks) and are_arrays(arrays) and are_statements(body, _WITHIN, _LOOPS_WITHIN)):
+    if not (are_asks(asks) and are_arrays(arrays) and are_statements(body, BODIES_WITHIN, _LOOPS_WITHIN)):
         return False
     return statements_in(body) <= _STATEMENTS and are_well_named(asks, arrays, body)
 

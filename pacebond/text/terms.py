@@ -4,8 +4,9 @@ from pacebond.kinds import is_row, is_whole
 
 WORTHS = 256
 
+TERMS_WITHIN = 4
+
 _LETTERS = 6
-_WITHIN = 4
 
 
 def plus(x, y):
@@ -55,7 +56,7 @@ def is_name(thing):
 
 def is_term(thing):
     """Whether it is a term; behind "at" any name will do."""
-    return is_term_within(thing, _WITHIN)
+    return is_term_within(thing, TERMS_WITHIN)
 
 
 def is_term_within(thing, left):

@@ -1,0 +1,1 @@
+"""Codes that are changed row by row, and works by their names."""

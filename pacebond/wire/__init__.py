@@ -1,0 +1,1 @@
+"""Several works on one wire."""

@@ -1,0 +1,1 @@
+"""Texts, and a desk that is spoken to by them."""
