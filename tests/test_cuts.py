@@ -213,6 +213,27 @@ class Papers(Case):
             if len(rows) > 1:
                 self.assertFalse(self.both((rows[::-1], pieces, walks), share=share))
 
+    def test_0_must_have_0(self):
+        # within 3 no seam but 0 is come to
+        (rows, pieces, walks) = cut_paper(self.CODE, MACHINE, 3)
+        self.same((rows, pieces), (((0, 0),), ()))
+        self.assertTrue(self.both((rows, pieces, walks), share=3))
+        for other in (((0, 1),), ((0, 7),), ((1, 0),), ((1, 1),), ()):
+            for walk in (walks[0], (0,), (0, 0), None):
+                self.assertFalse(self.both((other, (), (walk,) * len(other)), share=3))
+        rows, pieces, walks = cut_paper(self.CODE, MACHINE, 13)
+        self.assertFalse(self.both((tuple([(seam, number + 1) for seam, number in rows]), pieces, walks)))
+        self.assertFalse(self.both((rows[1:], pieces[1:], walks[1:])))
+
+    def test_a_number_for_what_is_no_seam(self):
+        # all is one piece, and heights of the whole code bear a row in it out, too; but it is none that is cut at
+        rows, pieces, walks = cut_paper(self.CODE, MACHINE, 500)
+        self.same(rows, ((0, 0), (1, 1), (3, 1), (6, 1), (7, 1), (8, 1)))
+        heights = piece_heights(self.CODE, MACHINE, 0, 8)
+        for row, at in ((2, 2), (4, 3), (5, 3)):
+            thing = (rows[:at] + ((row, 1),) + rows[at:], pieces[:at - 1] + ((0, heights),) + pieces[at - 1:], walks + (None,))
+            self.assertFalse(self.both(thing, share=500))
+
     def test_a_seam_too_few_at_the_end(self):
         # what is left out is come to, so no walk to it takes longer
         rows, pieces, walks = cut_paper(self.CODE, MACHINE, 13)

@@ -7,7 +7,7 @@ from pacebond.errors import NoPass, NoPasses, TooLong, TooWide
 from pacebond.kinds import is_row, is_whole
 from pacebond.machine.near import need_machine
 from pacebond.machine.steps import Ground
-from pacebond.machine.walks import MOST, need_most, steps_of, ticks_on
+from pacebond.machine.walks import MOST, steps_of, ticks_on
 from pacebond.passes.dropped import dropped
 from pacebond.passes.exchanged import exchanged
 from pacebond.passes.folded import folded
@@ -86,7 +86,6 @@ def need_tunable(code, machine, passes, most):
     need_machine(machine)
     if not is_passes(passes):
         raise NoPasses("these are no passes")
-    need_most(most)
     return weighed(code, machine, most)
 
 
